@@ -35,6 +35,11 @@ type asmFn struct {
 
 // unitOf is the unit of a text. It takes faults of all sorts, since what is made of them must be refused.
 func unitOf(text string) impl.Unit {
+	return asmOf(text).unit
+}
+
+// asmOf is the unit of a text, with the names that the text has.
+func asmOf(text string) asm {
 	var a asm
 	var lines [][]string
 	for _, line := range strings.FieldsFunc(text, func(r rune) bool { return r == ';' || r == '\n' }) {
@@ -50,7 +55,7 @@ func unitOf(text string) impl.Unit {
 		a.put(words)
 	}
 	a.unit.Main = slices.Index(a.names, "main")
-	return a.unit
+	return a
 }
 
 // find notes the names of a line.

@@ -1,6 +1,7 @@
 package tests
 
 import (
+	"fmt"
 	"math"
 	"math/big"
 	"testing"
@@ -10,10 +11,18 @@ import (
 
 // unitModel does units in another way than the program does: its values are those of Go, by their numbers in a map, it
 // counts with numbers of any size, and it hands its ends back. Like the model of sources it notes when an item was put
-// out, so that one run tells what comes of any fuel.
+// out, so that one run tells what comes of any fuel. What forget is asked for at the beginning of blocks, and where a
+// value is made, it may take out of the map; what is used must still be there.
 type unitModel struct {
 	model
-	unit impl.Unit
+	unit   impl.Unit
+	forget forgetter
+}
+
+// forgetter takes values out of those of a function.
+type forgetter interface {
+	atBlock(fn int, block int, values map[int]any)
+	atVal(fn int, val int, values map[int]any)
 }
 
 var modelStuck = &modelEnd{end: impl.EndStuck}
@@ -46,6 +55,9 @@ func (m *unitModel) call(n int, args []any) (any, *modelEnd) {
 	values := map[int]any{}
 	at, brought := 0, args
 	for {
+		if m.forget != nil {
+			m.forget.atBlock(n, at, values)
+		}
 		for i, v := range f.Blocks[at].Params {
 			values[v] = brought[i]
 		}
@@ -56,6 +68,9 @@ func (m *unitModel) call(n int, args []any) (any, *modelEnd) {
 			made, end := m.val(f.Vals[v], pickValues(values, f.Vals[v].Args))
 			if end != nil {
 				return nil, end
+			}
+			if m.forget != nil {
+				m.forget.atVal(n, v, values)
 			}
 			values[v] = made
 		}
@@ -81,7 +96,11 @@ func (m *unitModel) call(n int, args []any) (any, *modelEnd) {
 func pickValues(values map[int]any, list []int) []any {
 	var picked []any
 	for _, v := range list {
-		picked = append(picked, values[v])
+		value, ok := values[v]
+		if !ok {
+			panic(fmt.Sprint("the value ", v, " is not there"))
+		}
+		picked = append(picked, value)
 	}
 	return picked
 }
