@@ -57,18 +57,26 @@ func (m *unitMaker) tys(most int) []impl.Ty {
 
 func (m *unitMaker) fn() *impl.Fn { return &m.u.Fns[m.at] }
 
-// body goes through blocks in an order in which those that are on all ways to one come ahead of it.
+// body makes blocks with code of all sorts.
 func (m *unitMaker) body() {
-	m.ways(1 + m.pick(9))
+	m.bodyWith(1+m.pick(9), func() {
+		for range m.pick(7) {
+			m.code()
+		}
+	})
+}
+
+// bodyWith goes through so many blocks in an order in which those that are on all ways to one come ahead of it, and fills
+// each.
+func (m *unitMaker) bodyWith(count int, fill func()) {
+	m.ways(count)
 	f := m.fn()
 	m.over = onAllWays(f.Blocks)
 	m.own = make([][]int, len(f.Blocks))
 	m.params()
 	for _, b := range reachOrder(f.Blocks) {
 		m.block = b
-		for range m.pick(7) {
-			m.code()
-		}
+		fill()
 		m.end()
 	}
 	m.shuffle()

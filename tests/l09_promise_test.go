@@ -30,9 +30,9 @@ func keepOnly(values map[int]any, keep []int) {
 	maps.DeleteFunc(values, func(v int, _ any) bool { return !slices.Contains(keep, v) })
 }
 
-// wantForgotten fails unless a unit does what it does when, at each block's beginning and at each safe place, all that is
-// not told to be alive there is forgotten.
-func wantForgotten(t *testing.T, u impl.Unit, g forgetting, input []int) impl.Outcome {
+// wantForgotten fails unless a unit does what it does when, at each block's beginning and at each value, all is forgotten
+// that is to be there.
+func wantForgotten(t *testing.T, u impl.Unit, g forgetter, input []int) impl.Outcome {
 	t.Helper()
 	defer func() {
 		if why := recover(); why != nil {
@@ -47,7 +47,7 @@ func wantForgotten(t *testing.T, u impl.Unit, g forgetting, input []int) impl.Ou
 	}
 	o := impl.RunUnit(u, input, fuel)
 	if got := m.with(end, fuel); !sameOutcome(got, o) {
-		t.Fatalf("with %v: %s\nwithout what is not alive: %s\nof\n%s", input, outcomeText(o), outcomeText(got), showUnit(u))
+		t.Fatalf("with %v: %s\nwithout what is forgotten: %s\nof\n%s", input, outcomeText(o), outcomeText(got), showUnit(u))
 	}
 	return o
 }
@@ -154,32 +154,13 @@ var typedOps = []int{
 	impl.VaLoad, impl.VaGet, impl.VaRead, impl.VaCall,
 }
 
-// behindPasses are a unit, and what some lists of passes make of it.
-func behindPasses(t *testing.T, m *maker, u impl.Unit) []impl.Unit {
-	t.Helper()
-	units := []impl.Unit{u}
-	for _, passes := range [][]int{{impl.PassFold}, {impl.PassCopy}, {impl.PassSame}, {impl.PassDead}, passesOf("fcsd"), longPasses(m)} {
-		o, ok := impl.Optimize(u, passes)
-		if !ok {
-			t.Fatalf("%v refused of\n%s", passes, unitText(u))
-		}
-		units = append(units, o)
-	}
-	return units
-}
-
 // TestManySourcesAlive is the promise, of units of sources of all kinds of parts, and of the same behind passes.
 func TestManySourcesAlive(t *testing.T) {
 	t.Parallel()
 	numbers := spread(60000)
-	m := newMaker(numbers, 53)
 	c := newLifetimes()
-	for round := range 220 {
-		if u, ok := impl.Lower(newTypedMaker(numbers, round*59+7).typedSource()); ok {
-			for _, o := range behindPasses(t, m, u) {
-				c.add(t, o, promiseInput(numbers, round))
-			}
-		}
+	for round, u := range sourceUnits(t, numbers, 220) {
+		c.add(t, u, promiseInput(numbers, round))
 	}
 	c.want(t, 1000, []int{impl.VaPhi, impl.VaInt, impl.VaFloat, impl.VaNil, impl.VaArith, impl.VaMake, impl.VaRead}, "exit", "panic", "trap nil", "trap index", "trap make", "trap zero")
 }
@@ -188,16 +169,9 @@ func TestManySourcesAlive(t *testing.T) {
 func TestWaysAlive(t *testing.T) {
 	t.Parallel()
 	numbers := spread(60000)
-	m := newMaker(numbers, 59)
 	c := newLifetimes()
-	for round := range 120 {
-		parsed, _, _ := impl.Parse([]byte(newWayMaker(numbers, round*89+3).source()))
-		source, _ := impl.Check(parsed)
-		if u, ok := impl.Lower(source); ok {
-			for _, o := range behindPasses(t, m, u) {
-				c.add(t, o, promiseInput(numbers, round*5), nil)
-			}
-		}
+	for round, u := range wayUnits(t, numbers, 120) {
+		c.add(t, u, promiseInput(numbers, round*5), nil)
 	}
 	c.want(t, 500, []int{impl.VaPhi, impl.VaInt, impl.VaFloat, impl.VaNil, impl.VaArith, impl.VaNew, impl.VaMake, impl.VaLoad, impl.VaGet, impl.VaCall}, "exit", "panic", "trap nil")
 }
@@ -206,16 +180,9 @@ func TestWaysAlive(t *testing.T) {
 func TestLivelySourcesAlive(t *testing.T) {
 	t.Parallel()
 	numbers := spread(40000)
-	m := newMaker(numbers, 61)
 	c := newLifetimes()
-	for round := range 120 {
-		parsed, _, _ := impl.Parse([]byte(newLivelyMaker(numbers, round*97+1).source()))
-		source, _ := impl.Check(parsed)
-		if u, ok := impl.Lower(source); ok {
-			for _, o := range behindPasses(t, m, u) {
-				c.add(t, o, promiseInput(numbers, round*3))
-			}
-		}
+	for round, u := range livelyUnits(t, numbers, 120) {
+		c.add(t, u, promiseInput(numbers, round*3))
 	}
 	c.want(t, 300, []int{impl.VaPhi, impl.VaInt, impl.VaNew, impl.VaMake}, "exit")
 }
@@ -224,17 +191,9 @@ func TestLivelySourcesAlive(t *testing.T) {
 func TestManyUnitsAlive(t *testing.T) {
 	t.Parallel()
 	numbers := spread(60000)
-	m := newMaker(numbers, 67)
 	c := newLifetimes()
-	for round := range 600 {
-		u := newUnitMaker(numbers, round*67).unit()
-		units := []impl.Unit{u}
-		if round%4 == 0 {
-			units = behindPasses(t, m, u)
-		}
-		for _, o := range units {
-			c.add(t, o, promiseInput(numbers, round), nil)
-		}
+	for round, u := range anyUnits(t, numbers, 600) {
+		c.add(t, u, promiseInput(numbers, round), nil)
 	}
 	c.want(t, 1000, typedOps, "exit", "panic", "trap nil", "trap index", "trap zero", "deep", "stuck", "fuel")
 }
@@ -243,15 +202,10 @@ func TestManyUnitsAlive(t *testing.T) {
 func TestUnitsByHandAlive(t *testing.T) {
 	c := newLifetimes()
 	for _, text := range append(optTexts, tidyTexts...) {
-		u := unitOf(text)
-		wantTurnedAlike(t, u)
-		for _, passes := range somePasses() {
-			o, ok := impl.Optimize(u, passes)
-			if !ok {
-				t.Fatalf("%v refused of %s", passes, text)
-			}
-			c.add(t, o, nil, []int{1, 2, 3}, []int{5, 0, 1, -7, 100})
-		}
+		wantTurnedAlike(t, unitOf(text))
+	}
+	for u := range handUnits(t) {
+		c.add(t, u, nil, []int{1, 2, 3}, []int{5, 0, 1, -7, 100})
 	}
 	if c.units < 400 || c.in == 0 || c.across == 0 {
 		t.Error("too little to tell: ", c.units, c.in, c.across)

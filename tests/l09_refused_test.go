@@ -58,19 +58,29 @@ func TestMostFunctionsAlive(t *testing.T) {
 	}
 }
 
+// faultyUnits are units that may not be, by what is wrong with them; of some that lies in another function than the one
+// that is asked for.
+func faultyUnits() map[string]impl.Unit {
+	units := map[string]impl.Unit{
+		"the zero unit":   {},
+		"too many values": {Fns: []impl.Fn{manyVals(impl.MaxVals + 1)}},
+		"too many blocks": {Fns: []impl.Fn{linked(chain(impl.MaxBlocks + 1))}},
+		"ahead":           unitOf("fn f; print x; x = read; return; fn main; y = read; return; fn g; return"),
+		"behind":          unitOf("fn main; return; fn g; return; fn f > int; x = float 1; return x"),
+		"in a struct":     edited("struct int; fn main; return; fn f; return; fn g; return", func(u *impl.Unit) { u.Structs[0][0] = tyPtr(1) }),
+		"in Main":         edited("fn main; return; fn f; return; fn g; return", func(u *impl.Unit) { u.Main = 3 }),
+	}
+	for _, text := range noUnits {
+		units[text] = unitOf(text)
+	}
+	return units
+}
+
 func TestUnitsThatAreNotAlive(t *testing.T) {
-	for n := range 3 {
-		wantNotAlive(t, "the zero unit", impl.Unit{}, n)
-		for _, text := range noUnits {
-			wantNotAlive(t, text, unitOf(text), n)
+	for what, u := range faultyUnits() {
+		for n := range 3 {
+			wantNotAlive(t, what, u, n)
 		}
-		wantNotAlive(t, "too many values", impl.Unit{Fns: []impl.Fn{manyVals(impl.MaxVals + 1)}}, n)
-		wantNotAlive(t, "too many blocks", impl.Unit{Fns: []impl.Fn{linked(chain(impl.MaxBlocks + 1))}}, n)
-		// What is wrong lies in another function than the one that is asked for.
-		wantNotAlive(t, "ahead", unitOf("fn f; print x; x = read; return; fn main; y = read; return; fn g; return"), n)
-		wantNotAlive(t, "behind", unitOf("fn main; return; fn g; return; fn f > int; x = float 1; return x"), n)
-		wantNotAlive(t, "in a struct", edited("struct int; fn main; return; fn f; return; fn g; return", func(u *impl.Unit) { u.Structs[0][0] = tyPtr(1) }), n)
-		wantNotAlive(t, "in Main", edited("fn main; return; fn f; return; fn g; return", func(u *impl.Unit) { u.Main = 3 }), n)
 	}
 	for _, n := range noFunctions(0) {
 		wantNotAlive(t, "the zero unit", impl.Unit{}, n)
