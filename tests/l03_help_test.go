@@ -132,6 +132,8 @@ func spoil(v reflect.Value) {
 		v.SetUint('?')
 	case reflect.Int:
 		v.SetInt(-7)
+	case reflect.Bool:
+		v.SetBool(true)
 	case reflect.Struct:
 		for i := range v.NumField() {
 			spoil(v.Field(i))
@@ -161,6 +163,8 @@ func writeDeep(b *strings.Builder, v reflect.Value) {
 		b.WriteString("]")
 	case reflect.Uint8:
 		b.WriteByte(byte(v.Uint()))
+	case reflect.Bool:
+		b.WriteString(strconv.FormatBool(v.Bool()) + ",")
 	default:
 		b.WriteString(strconv.FormatInt(v.Int(), 36) + ",")
 	}

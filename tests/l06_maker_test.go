@@ -376,9 +376,9 @@ func (m *unitMaker) turned(count int, keep int) []int {
 	return list
 }
 
-// turnOne is a copy of a unit in which one number or one list is another.
-func turnOne(m *maker, u impl.Unit) impl.Unit {
-	back := roomy(u)
+// turnOne is a copy of a value in which one number or one list is another.
+func turnOne[T any](m *maker, v T) T {
+	back := roomy(v)
 	spots := spotsOf(reflect.ValueOf(&back).Elem())
 	spot := spots[m.pick(len(spots))]
 	if spot.Kind() == reflect.Int {
@@ -408,6 +408,8 @@ func turnOne(m *maker, u impl.Unit) impl.Unit {
 // spotsOf are all numbers and lists of a value.
 func spotsOf(v reflect.Value) []reflect.Value {
 	switch v.Kind() {
+	case reflect.Bool:
+		return nil
 	case reflect.Int:
 		return []reflect.Value{v}
 	case reflect.Struct:
