@@ -28,8 +28,12 @@ func wantMachineGoesOn(t *testing.T, m impl.Image, s impl.Setup, fuels []int) {
 	}
 }
 
-// machineFuels are promiseFuels, none of them more than some thousands.
+// machineFuels are all from 0 up to some behind the end, where that is not far; else promiseFuels, none of them more than
+// some thousands.
 func machineFuels(steps int) []int {
+	if steps <= 400 {
+		return append(upTo(steps+4), 2*steps+7, 8000)
+	}
 	return slices.DeleteFunc(promiseFuels(steps), func(fuel int) bool { return fuel > 8000 })
 }
 
@@ -148,11 +152,7 @@ func TestHandMachinesGoOn(t *testing.T) {
 		m := machineOf(text)
 		for _, s := range []impl.Setup{setupOf(8, 16), setupOf(20, 40, 1, 2, 1, 2, 1, 2), setupOf(4000, 2000, 0, 2, 1), {Half: 9, Stack: 17, Fuel: 5000, Input: []int{101}}, {Half: 9, Stack: 17, Fuel: 5000, Input: []int{8}}} {
 			r := runMachine(t, m, s)
-			var fuels []int
-			for fuel := range min(r.Steps, 150) + 4 {
-				fuels = append(fuels, fuel)
-			}
-			fuels = append(fuels, r.Steps-1, r.Steps, r.Steps+1, r.Steps+2, 2*r.Steps+7, impl.MaxFuel/2, impl.MaxFuel-1, impl.MaxFuel)
+			fuels := append(upTo(min(r.Steps, 150)+4), r.Steps-1, r.Steps, r.Steps+1, r.Steps+2, 2*r.Steps+7, impl.MaxFuel/2, impl.MaxFuel-1, impl.MaxFuel)
 			slices.Sort(fuels)
 			wantMachineGoesOn(t, m, s, slices.DeleteFunc(fuels, func(fuel int) bool { return fuel < 0 }))
 		}
